@@ -1,0 +1,1 @@
+"""Seerings: a card index whose cards lead to one another."""
