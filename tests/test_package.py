@@ -5,6 +5,14 @@ import unittest
 from seerings.cards import Card
 from seerings.drawers import Drawer, filed, is_filed
 from seerings.errors import InvalidDrawer, SeeError, UnknownPlace
+from seerings.gathering import (
+    also_rings, fewest_headings, gather, hidden, leads_to, least_patience, reach,
+)
+from seerings.lookups import look_up, never_found, why_not
+from seerings.ordering import fewest_moves, out_of_order
+from seerings.walks import dearest, landings, looks, see_rings, walk
+
+from tests.made import RULES, WAYS, some_drawers
 
 
 def a_drawer():
@@ -58,6 +66,80 @@ class CardsAndDrawersTest(unittest.TestCase):
         for call in wrong:
             with self.assertRaises(SeeError):
                 call()
+
+
+def answers(drawer):
+    """Return all that the functions of a drawer answer, by each rule and each way."""
+    told = [out_of_order(drawer)]
+    for rule in RULES:
+        told += [never_found(drawer, rule), fewest_moves(drawer, rule, 2), landings(drawer, rule)]
+        told += [see_rings(drawer, rule), dearest(drawer, rule), fewest_headings(drawer, rule)]
+        told += [also_rings(drawer, rule), hidden(drawer, rule, ("bus", "rail"))]
+        for place in range(len(drawer)):
+            told += [why_not(drawer, rule, place), leads_to(drawer, rule, place)]
+        for heading in ("bus", "rail", "a", "x"):
+            told += [look_up(drawer, rule, heading), walk(drawer, rule, heading), looks(drawer, rule, heading)]
+            told += [reach(drawer, rule, heading)]
+            for way in WAYS:
+                told += [gather(drawer, rule, way, heading, 9), least_patience(drawer, rule, way, heading, 4)]
+    return told
+
+
+def spoil(value):
+    """Empty a list or a dict that was returned."""
+    if isinstance(value, (list, dict)):
+        value.clear()
+
+
+class FunctionsTest(unittest.TestCase):
+
+    def test_arguments_are_not_modified(self):
+        for drawer in [a_drawer(), *some_drawers(20, 6)]:
+            cards = drawer.cards
+            copies = tuple(Card(card.heading, card.books, card.see, card.also) for card in cards)
+            answers(drawer)
+            self.assertEqual(cards, copies)
+            self.assertEqual(drawer, Drawer(copies))
+
+    def test_repeated_calls_return_equal_results_whatever_the_caller_does_to_them(self):
+        for drawer in [a_drawer(), Drawer(()), *some_drawers(20, 6)]:
+            first, second = answers(drawer), answers(drawer)
+            self.assertEqual(first, second)
+            for value in first:
+                spoil(value)
+            self.assertEqual(answers(drawer), second)
+            self.assertEqual(answers(Drawer(drawer.cards)), second)
+
+    def test_kinds_of_values(self):
+        drawer = a_drawer()
+        kinds = (
+            (look_up(drawer, "all", "bus"), tuple), (look_up(drawer, "all", "bus")[1], tuple),
+            (never_found(drawer, "all"), list), (why_not(drawer, "all", 3), tuple), (out_of_order(drawer), tuple),
+            (fewest_moves(drawer, "leaf", 2), list), (walk(drawer, "all", "bus"), tuple),
+            (walk(drawer, "all", "bus")[1], tuple), (looks(drawer, "all", "bus"), int),
+            (landings(drawer, "all"), dict), (see_rings(drawer, "all"), list), (dearest(drawer, "all"), tuple),
+            (gather(drawer, "all", "deep", "bus", 1), tuple), (reach(drawer, "all", "bus"), tuple),
+            (hidden(drawer, "all", ()), list), (least_patience(drawer, "all", "deep", "tram", 4), int),
+            (fewest_headings(drawer, "all"), tuple), (leads_to(drawer, "all", 0), list),
+            (also_rings(drawer, "all"), list),
+        )
+        for value, kind in kinds:
+            self.assertIs(value.__class__, kind)
+
+    def test_a_call_that_raises_an_error_changes_nothing(self):
+        drawer = a_drawer()
+        before = answers(drawer)
+        wrong = (
+            lambda: look_up(drawer, "all", ""), lambda: never_found(drawer, ""), lambda: why_not(drawer, "all", 4),
+            lambda: fewest_moves(drawer, "all", 3), lambda: walk(drawer, "", "bus"), lambda: looks(drawer, "all", "1"),
+            lambda: landings(drawer, ""), lambda: gather(drawer, "all", "deep", "bus", 0),
+            lambda: hidden(drawer, "all", ("bus", "")), lambda: leads_to(drawer, "all", True),
+            lambda: fewest_moves(drawer, "all", True), lambda: gather(drawer, "all", "deep", "bus", True),
+        )
+        for call in wrong:
+            with self.assertRaises(SeeError):
+                call()
+        self.assertEqual(answers(drawer), before)
 
 
 if __name__ == "__main__":

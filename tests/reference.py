@@ -1,0 +1,146 @@
+"""The same answers as the program's, found in another way: slowly, by trying all there is."""
+
+import itertools
+
+
+def look_up(row, rule, heading):
+    """Return the place that is found in a row of headings, or None, and the places looked at."""
+    if rule == "half":
+        return by_halves(row, heading, range(len(row)))
+    end = len(row)
+    if heading in row:
+        end = row.index(heading) + 1
+    if rule == "leaf":
+        greater = [place for place, there in enumerate(row) if there > heading]
+        end = min([end, *[place + 1 for place in greater]])
+    found = end - 1 if end and row[end - 1] == heading else None
+    return found, tuple(range(end))
+
+
+def by_halves(row, heading, places):
+    if not places:
+        return None, ()
+    middle = (places[0] + places[-1]) // 2
+    if row[middle] == heading:
+        return middle, (middle,)
+    if row[middle] > heading:
+        found, looks = by_halves(row, heading, range(places[0], middle))
+    else:
+        found, looks = by_halves(row, heading, range(middle + 1, places[-1] + 1))
+    return found, (middle, *looks)
+
+
+def out_of_order(row):
+    for many in range(len(row) + 1):
+        for places in itertools.combinations(range(len(row)), many):
+            left = [heading for place, heading in enumerate(row) if place not in places]
+            if left == sorted(left):
+                return places
+
+
+def fewest_moves(drawer, rule, most):
+    many = len(drawer)
+    moves = [(place, other) for place in range(many) for other in range(many) if place != other]
+    for number in range(most + 1):
+        for row in itertools.product(moves, repeat=number):
+            later = drawer
+            for place, other in row:
+                later = later.moved(place, other)
+            headings = [card.heading for card in later.cards]
+            if all(look_up(headings, rule, heading)[0] is not None for heading in headings):
+                return list(row)
+    return None
+
+
+def walk(drawer, rule, heading, before=()):
+    """Return the word, the places, the looks and the headings of a walk."""
+    if heading in before:
+        return "ring", (), 0, ()
+    place, looks = look_up([card.heading for card in drawer.cards], rule, heading)
+    if place is None:
+        return "lost", (), len(looks), (heading,)
+    if not drawer[place].see:
+        return "entry", (place,), len(looks), (heading,)
+    word, places, more, headings = walk(drawer, rule, drawer[place].see, (*before, heading))
+    return word, (place, *places), len(looks) + more, (heading, *headings)
+
+
+def known(drawer):
+    return sorted({word for card in drawer.cards for word in (card.heading, card.see, *card.also) if word})
+
+
+def landings(drawer, rule):
+    ends = {}
+    for heading in known(drawer):
+        word, places, _, _ = walk(drawer, rule, heading)
+        ends[heading] = (word, places[-1] if word == "entry" else None)
+    return ends
+
+
+def see_rings(drawer, rule):
+    """Return all rings: of rows of headings, those that each of their walks goes round."""
+    rings = []
+    for heading in known(drawer):
+        ring = walk(drawer, rule, heading)[3]
+        walks = [walk(drawer, rule, member) for member in ring]
+        if heading == min(ring) and all(told[0] == "ring" and set(told[3]) == set(ring) for told in walks):
+            rings.append(ring)
+    return sorted(rings)
+
+
+def gather(drawer, rule, way, heading, patience):
+    agenda, walked, places = (heading,), (), ()
+    while agenda and len(walked) < patience:
+        heading, *rest = agenda
+        agenda = tuple(rest)
+        if heading in walked:
+            continue
+        walked = (*walked, heading)
+        word, found, _, _ = walk(drawer, rule, heading)
+        if word != "entry" or found[-1] in places:
+            continue
+        places = (*places, found[-1])
+        also = drawer[found[-1]].also
+        agenda = {"broad": (*agenda, *also), "deep": (*also, *agenda), "straight": also}[way]
+    books = {book for place in places for book in drawer[place].books}
+    return tuple(sorted(books)), places, len(walked)
+
+
+def reach(drawer, rule, heading):
+    return gather(drawer, rule, "broad", heading, 99)[0]
+
+
+def least_patience(drawer, rule, way, heading, book):
+    for patience in range(1, 100):
+        if book in gather(drawer, rule, way, heading, patience)[0]:
+            return patience
+    return None
+
+
+def fewest_headings(drawer, rule):
+    headings = sorted({card.heading for card in drawer.cards})
+    books = {book for heading in headings for book in reach(drawer, rule, heading)}
+    for many in range(len(headings) + 1):
+        for chosen in itertools.combinations(headings, many):
+            if {book for heading in chosen for book in reach(drawer, rule, heading)} == books:
+                return chosen
+
+
+def leads_to(drawer, rule, place):
+    walks = [walk(drawer, rule, heading) for heading in drawer[place].also]
+    return sorted({places[-1] for word, places, _, _ in walks if word == "entry"})
+
+
+def also_rings(drawer, rule):
+    many = range(len(drawer))
+    leads = {(one, other) for one in many for other in leads_to(drawer, rule, one)}
+    for through, one, other in itertools.product(many, repeat=3):
+        if (one, through) in leads and (through, other) in leads:
+            leads.add((one, other))
+    rings = []
+    for size in range(len(drawer), 1, -1):
+        for ring in itertools.combinations(many, size):
+            if all(pair in leads for pair in itertools.permutations(ring, 2)):
+                if not any(set(ring) < set(greater) for greater in rings):
+                    rings.append(ring)
+    return sorted(rings)
