@@ -1,6 +1,8 @@
 """What is asked of arguments throughout the package."""
 
-from seerings.errors import InvalidHeading, InvalidNumber, InvalidRule, InvalidWay, UnknownPlace
+from seerings.errors import (
+    InvalidHeading, InvalidLog, InvalidNumber, InvalidRule, InvalidWay, UnknownPlace,
+)
 
 LETTERS = "abcdefghijklmnopqrstuvwxyz"
 LONGEST_WORD = 8
@@ -40,6 +42,12 @@ def check_heading(heading):
         raise InvalidHeading()
 
 
+def check_headings(headings):
+    """Raise InvalidHeading if one of some headings is no word."""
+    for heading in headings:
+        check_heading(heading)
+
+
 def check_number(number, least, greatest):
     """Raise InvalidNumber for what is no integer within limits."""
     if not is_number(number, least, greatest):
@@ -50,3 +58,18 @@ def check_place(many, place):
     """Raise UnknownPlace for what is no place among so many cards."""
     if not is_number(place, 0, many - 1):
         raise UnknownPlace()
+
+
+def first_without_word(rows):
+    """Return the index of the first tuple whose heading is no word, None if there is none."""
+    for index, row in enumerate(rows):
+        if not is_word(row[0]):
+            return index
+    return None
+
+
+def check_log(log):
+    """Raise InvalidLog for the first tuple of a log, or of counts, whose heading is no word."""
+    index = first_without_word(log)
+    if index is not None:
+        raise InvalidLog(index)

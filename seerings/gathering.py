@@ -1,6 +1,6 @@
 """Gathering books from a heading on, and where entry cards lead."""
 
-from seerings.checks import check_heading, check_number, check_place, check_rule, check_way
+from seerings.checks import check_heading, check_headings, check_number, check_place, check_rule, check_way
 from seerings.walks import travel
 
 MOST_PATIENCE = 99
@@ -66,8 +66,7 @@ def reach(drawer, rule, heading):
 def hidden(drawer, rule, headings):
     """Return the books of the drawer that none of some headings reaches."""
     check_rule(rule)
-    for word in headings:
-        check_heading(word)
+    check_headings(headings)
     reached = [book for heading in headings for book in reached_books(drawer, rule, heading)]
     return [book for book in books_at(drawer, list(range(len(drawer)))) if book not in reached]
 

@@ -7,11 +7,19 @@ from seerings.drawers import Drawer
 
 RULES = ("all", "leaf", "half")
 WAYS = ("broad", "deep", "straight")
+NO_RULES = ("", "ALL", "broad", None)
+NO_WORDS = ("", "A", "abcdefghi", "a b")
 
 
 def plain(text):
     """Return the drawer of plain cards with these one-letter headings."""
     return Drawer(tuple(Card(letter) for letter in text))
+
+
+def spread(*rows):
+    """Return a drawer of entry cards, from rows of a letter and further ones; the first has book 1, and so on."""
+    cards = [Card(row[0], (number + 1,), "", tuple(row[1:])) for number, row in enumerate(rows)]
+    return Drawer(tuple(cards))
 
 
 def plain_drawers(letters, most):

@@ -2,6 +2,10 @@
 
 import itertools
 
+from seerings.cards import Card
+from seerings.drawers import Drawer
+from seerings.errors import InvalidCard
+
 
 def look_up(row, rule, heading):
     """Return the place that is found in a row of headings, or None, and the places looked at."""
@@ -144,3 +148,91 @@ def also_rings(drawer, rule):
                 if not any(set(ring) < set(greater) for greater in rings):
                     rings.append(ring)
     return sorted(rings)
+
+
+def books_of(drawer):
+    return {book for card in drawer.cards for book in card.books}
+
+
+def added(drawer, place, heading):
+    """Return the drawer in which a heading was put behind the also of a card, None if there is no such."""
+    cards = list(drawer.cards)
+    card = cards[place]
+    if card.see:
+        return None
+    try:
+        cards[place] = Card(card.heading, card.books, card.see, (*card.also, heading))
+    except InvalidCard:
+        return None
+    return Drawer(tuple(cards))
+
+
+def mend(drawer, rule, headings, most):
+    """Try all lists of additions, in order."""
+    additions = list(itertools.product(range(len(drawer)), drawer.headings))
+    for many in range(most + 1):
+        for chosen in itertools.product(additions, repeat=many):
+            later = drawer
+            for place, heading in chosen:
+                later = None if later is None else added(later, place, heading)
+            if later is not None and all(set(reach(later, rule, heading)) == books_of(drawer) for heading in headings):
+                return list(chosen)
+    return None
+
+
+def losses(drawer, least, most):
+    """Return all losses of so many cards, shorter ones first, with what is left."""
+    sizes = range(least, most + 1)
+    places = [lost for size in sizes for lost in itertools.combinations(range(len(drawer)), size)]
+    cards = drawer.cards
+    return {lost: Drawer(tuple(cards[at] for at in range(len(cards)) if at not in lost)) for lost in places}
+
+
+def cuts(drawer, rule, heading, book):
+    if book not in reach(drawer, rule, heading):
+        return []
+    return [lost[0] for lost, left in losses(drawer, 1, 1).items() if book not in reach(left, rule, heading)]
+
+
+def least_loss(drawer, rule, heading, book):
+    for lost, left in losses(drawer, 0, len(drawer)).items():
+        if book not in reach(left, rule, heading):
+            return lost
+
+
+def safe_books(drawer, rule, heading, count):
+    count = min(count, len(drawer))
+    reaches = [set(reach(left, rule, heading)) for left in losses(drawer, count, count).values()]
+    return tuple(sorted(set.intersection(*reaches)))
+
+
+def possible_losses(drawer, rule, log, most):
+    told = []
+    for lost, left in losses(drawer, 0, most).items():
+        if all(reach(left, rule, heading) == books for heading, books in log):
+            told.append(lost)
+    return told
+
+
+def next_heading(drawer, rule, log, most):
+    told = possible_losses(drawer, rule, log, most)
+    worst = {}
+    for heading in drawer.headings:
+        reaches = [reach(drawer.without(lost), rule, heading) for lost in told]
+        worst[heading] = max((reaches.count(books) for books in reaches), default=0)
+    if not told or not worst:
+        return None
+    return [heading for heading in worst if worst[heading] == min(worst.values())][0]
+
+
+def difference(drawer, one, other):
+    ends, others = landings(drawer, one), landings(drawer, other)
+    return next((heading for heading in ends if ends[heading] != others[heading]), None)
+
+
+def possible_rules(drawer, counts):
+    told = []
+    for rule in ("all", "half", "leaf"):
+        if [walk(drawer, rule, heading)[2] for heading, _ in counts] == [looks for _, looks in counts]:
+            told.append(rule)
+    return told

@@ -10,17 +10,9 @@ from seerings.gathering import (
 )
 
 from tests import examples, reference
-from tests.made import RULES, WAYS, plain, some_drawers
+from tests.made import NO_RULES, NO_WORDS, RULES, WAYS, plain, some_drawers, spread
 
-NO_RULES = ("", "ALL", "broad", None)
 NO_WAYS = ("", "Broad", "all", "straigh", None)
-NO_WORDS = ("", "A", "abcdefghi", "a b")
-
-
-def spread(*rows):
-    """Return a drawer of entry cards, from rows of a letter and further ones; the first has book 1, and so on."""
-    cards = [Card(row[0], (number + 1,), "", tuple(row[1:])) for number, row in enumerate(rows)]
-    return Drawer(tuple(cards))
 
 
 class GatherTest(unittest.TestCase):

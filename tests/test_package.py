@@ -9,7 +9,10 @@ from seerings.gathering import (
     also_rings, fewest_headings, gather, hidden, leads_to, least_patience, reach,
 )
 from seerings.lookups import look_up, never_found, why_not
+from seerings.losing import cuts, least_loss, safe_books
+from seerings.mending import mend
 from seerings.ordering import fewest_moves, out_of_order
+from seerings.traces import difference, judged, next_heading, possible_losses, possible_rules
 from seerings.walks import dearest, landings, looks, see_rings, walk
 
 from tests.made import RULES, WAYS, some_drawers
@@ -82,6 +85,19 @@ def answers(drawer):
             told += [reach(drawer, rule, heading)]
             for way in WAYS:
                 told += [gather(drawer, rule, way, heading, 9), least_patience(drawer, rule, way, heading, 4)]
+    return told + answers_of_losses(drawer)
+
+
+def answers_of_losses(drawer):
+    """Return what is told of mending and losing, and of what was lost."""
+    told = [possible_rules(drawer, []), possible_rules(drawer, [("bus", 1)]), difference(drawer, "all", "half")]
+    for rule in RULES:
+        for heading in ("bus", "a"):
+            told += [mend(drawer, rule, (heading,), 2), cuts(drawer, rule, heading, 4)]
+            told += [least_loss(drawer, rule, heading, 4), safe_books(drawer, rule, heading, 1)]
+        for log in ([], [("a", ()), ("bus", ())]):
+            told += [possible_losses(drawer, rule, log, 2), next_heading(drawer, rule, log, 2)]
+        told += [judged(drawer, rule, [], 2, place) for place in range(len(drawer))]
     return told
 
 
@@ -121,7 +137,12 @@ class FunctionsTest(unittest.TestCase):
             (gather(drawer, "all", "deep", "bus", 1), tuple), (reach(drawer, "all", "bus"), tuple),
             (hidden(drawer, "all", ()), list), (least_patience(drawer, "all", "deep", "tram", 4), int),
             (fewest_headings(drawer, "all"), tuple), (leads_to(drawer, "all", 0), list),
-            (also_rings(drawer, "all"), list),
+            (also_rings(drawer, "all"), list), (mend(drawer, "all", ("bus",), 0), type(None)),
+            (mend(drawer, "all", (), 0), list), (cuts(drawer, "all", "bus", 7), list),
+            (least_loss(drawer, "all", "bus", 7), tuple), (safe_books(drawer, "all", "bus", 0), tuple),
+            (possible_losses(drawer, "all", [], 1), list), (possible_losses(drawer, "all", [], 1)[0], tuple),
+            (judged(drawer, "all", [], 1, 0), str), (next_heading(drawer, "all", [], 1), str),
+            (difference(drawer, "all", "leaf"), str), (possible_rules(drawer, []), list),
         )
         for value, kind in kinds:
             self.assertIs(value.__class__, kind)
@@ -135,6 +156,12 @@ class FunctionsTest(unittest.TestCase):
             lambda: landings(drawer, ""), lambda: gather(drawer, "all", "deep", "bus", 0),
             lambda: hidden(drawer, "all", ("bus", "")), lambda: leads_to(drawer, "all", True),
             lambda: fewest_moves(drawer, "all", True), lambda: gather(drawer, "all", "deep", "bus", True),
+            lambda: mend(drawer, "all", ("bus",), True), lambda: mend(drawer, "all", ("bus", ""), 1),
+            lambda: cuts(drawer, "all", "", 1), lambda: least_loss(drawer, "", "bus", 1),
+            lambda: safe_books(drawer, "all", "bus", True), lambda: possible_losses(drawer, "all", [], True),
+            lambda: judged(drawer, "all", [], 1, True), lambda: judged(drawer, "all", [("x", (1,))], 1, 0),
+            lambda: next_heading(drawer, "all", [("", ())], 1), lambda: difference(drawer, "all", ""),
+            lambda: possible_rules(drawer, [("bus", 1), ("", 1)]),
         )
         for call in wrong:
             with self.assertRaises(SeeError):
