@@ -1,13 +1,17 @@
 """What is asked of arguments throughout the package."""
 
 from seerings.errors import (
-    InvalidHeading, InvalidLog, InvalidNumber, InvalidRule, InvalidWay, UnknownPlace,
+    InvalidHeading, InvalidLog, InvalidNumber, InvalidRequests, InvalidRows, InvalidRule, InvalidTally, InvalidWay,
+    UnknownPlace,
 )
 
 LETTERS = "abcdefghijklmnopqrstuvwxyz"
 LONGEST_WORD = 8
 RULES = ("all", "leaf", "half")
 WAYS = ("broad", "deep", "straight")
+MOST_REQUESTS = 12
+MOST_ROWS = 3
+MOST_IN_ROW = 4
 
 
 def is_word(text):
@@ -73,3 +77,34 @@ def check_log(log):
     index = first_without_word(log)
     if index is not None:
         raise InvalidLog(index)
+
+
+def check_tally(tally):
+    """Raise InvalidTally for the first tuple of a tally whose heading is no word."""
+    index = first_without_word(tally)
+    if index is not None:
+        raise InvalidTally(index)
+
+
+def first_wrong_request(requests, most):
+    """Return the index of the first request that is no word or one too many, None if there is none."""
+    for index, heading in enumerate(requests):
+        if index == most or not is_word(heading):
+            return index
+    return None
+
+
+def check_requests(requests):
+    """Raise InvalidRequests for the first request that is no word or one too many."""
+    index = first_wrong_request(requests, MOST_REQUESTS)
+    if index is not None:
+        raise InvalidRequests(index)
+
+
+def check_rows(rows):
+    """Raise InvalidRows for the first row with a wrong request or one too many, or if there are no rows."""
+    for index, row in enumerate(rows):
+        if index == MOST_ROWS or first_wrong_request(row, MOST_IN_ROW) is not None:
+            raise InvalidRows(index)
+    if not rows:
+        raise InvalidRows(0)

@@ -236,3 +236,111 @@ def possible_rules(drawer, counts):
         if [walk(drawer, rule, heading)[2] for heading, _ in counts] == [looks for _, looks in counts]:
             told.append(rule)
     return told
+
+
+def card_at_end(drawer, rule, heading):
+    word, places, _, _ = walk(drawer, rule, heading)
+    return drawer[places[-1]] if word == "entry" else None
+
+
+def still_found(one, other, rule):
+    both = Drawer((*one.cards, *other.cards))
+    ends = {heading: (card_at_end(one, rule, heading), card_at_end(both, rule, heading)) for heading in known(one)}
+    return [heading for heading, (first, second) in ends.items() if first is not None and first == second]
+
+
+def card_behind_split(drawer, rule, border, heading, before=()):
+    """Return the entry card that a searcher comes to who asks in one of two parts each time."""
+    if heading in before:
+        return None
+    cards = [card for card in drawer.cards if (card.heading < border) == (heading < border)]
+    place, _ = look_up([card.heading for card in cards], rule, heading)
+    if place is None or not cards[place].see:
+        return None if place is None else cards[place]
+    return card_behind_split(drawer, rule, border, cards[place].see, (*before, heading))
+
+
+def lost_by_split(drawer, rule, border):
+    lost = []
+    for heading in known(drawer):
+        card = card_at_end(drawer, rule, heading)
+        if card is not None and card_behind_split(drawer, rule, border, heading) != card:
+            lost.append(heading)
+    return lost
+
+
+def best_split(drawer, rule):
+    best = None
+    for border in drawer.headings:
+        if any(card.heading < border for card in drawer.cards):
+            lost = len(lost_by_split(drawer, rule, border))
+            if best is None or lost < best[0]:
+                best = (lost, border)
+    return best and best[1]
+
+
+def possible_orders(drawer, rule, tally, most):
+    headings = sorted(card.heading for card in drawer.cards)
+    steps = list(itertools.product(range(len(headings)), repeat=2))
+    orders = set()
+    for many in range(most + 1):
+        for moves in itertools.product(steps, repeat=many):
+            order = list(range(len(headings)))
+            for place, other in moves:
+                order.insert(other, order.pop(place))
+            orders.add(tuple(order))
+    told = []
+    for order in sorted(orders):
+        row = [headings[place] for place in order]
+        if all(len(look_up(row, rule, heading)[1]) == looks for heading, looks in tally):
+            told.append(order)
+    return told
+
+
+def used(drawer, rule, requests):
+    """Return the places that the cards had, as they lie in the end, the looks, and the fronts behind each request."""
+    cards = list(enumerate(drawer.cards))
+    total = 0
+    fronts = []
+    for heading in requests:
+        place, looks = look_up([card.heading for _, card in cards], rule, heading)
+        total += len(looks)
+        if place is not None:
+            cards.insert(0, cards.pop(place))
+        fronts.append(cards[0][0] if cards else None)
+    return tuple(place for place, _ in cards), total, fronts
+
+
+def first_in_front(drawer, rule, requests, place, rounds):
+    """Look for a card in front in so many rounds."""
+    if place == 0:
+        return 0, -1
+    fronts = used(drawer, rule, requests * rounds)[2]
+    if place not in fronts:
+        return None
+    return divmod(fronts.index(place), len(requests))
+
+
+def cost(row, rule, requests):
+    return sum(len(look_up(row, rule, heading)[1]) for heading in requests)
+
+
+def best_order(drawer, requests):
+    orders = itertools.permutations(range(len(drawer)))
+    return min((cost([drawer[place].heading for place in order], "all", requests), order) for order in orders)
+
+
+def turns_of(rows):
+    """Return all turns that several searchers can take."""
+    indexes = [index for index, row in enumerate(rows) for _ in row]
+    return sorted(set(itertools.permutations(indexes)))
+
+
+def shared(drawer, rule, rows):
+    """Return a dict from all turns to tuples of the looks, and of the place of the card in front at the end."""
+    told = {}
+    for turns in turns_of(rows):
+        left = [list(row) for row in rows]
+        order, looks, _ = used(drawer, rule, [left[index].pop(0) for index in turns])
+        told[turns] = (looks, order[0] if order else None)
+    return told

@@ -1,5 +1,6 @@
 """What holds for the whole package: point 1."""
 
+import importlib
 import unittest
 
 from seerings.cards import Card
@@ -8,14 +9,42 @@ from seerings.errors import InvalidDrawer, SeeError, UnknownPlace
 from seerings.gathering import (
     also_rings, fewest_headings, gather, hidden, leads_to, least_patience, reach,
 )
+from seerings.joining import best_split, joined, lost_by_split, split, still_found
 from seerings.lookups import look_up, never_found, why_not
 from seerings.losing import cuts, least_loss, safe_books
 from seerings.mending import mend
+from seerings.misfiling import misplaced, possible_orders
 from seerings.ordering import fewest_moves, out_of_order
+from seerings.sharing import best_turns, shared_fronts, shared_looks
 from seerings.traces import difference, judged, next_heading, possible_losses, possible_rules
+from seerings.using import best_order, cost, first_in_front, used, used_far, worth_filing
 from seerings.walks import dearest, landings, looks, see_rings, walk
 
 from tests.made import RULES, WAYS, some_drawers
+
+# What the interface lists under each file, as far as it has landed.
+INTERFACE = {
+    "errors": "SeeError InvalidCard InvalidDrawer UnknownPlace InvalidRule InvalidHeading InvalidWay InvalidNumber "
+              "InvalidLog NoLoss InvalidTally NoOrder InvalidRequests InvalidRows InvalidName UnknownName "
+              "InvalidOperation NoPair Ended InvalidText DecodeError ScriptError ExecutionFailed TooLong",
+    "cards": "Card", "drawers": "Drawer filed is_filed", "lookups": "look_up never_found why_not",
+    "ordering": "out_of_order fewest_moves", "walks": "walk looks landings see_rings dearest",
+    "gathering": "gather reach hidden least_patience fewest_headings leads_to also_rings", "mending": "mend",
+    "losing": "cuts least_loss safe_books",
+    "traces": "possible_losses judged next_heading difference possible_rules",
+    "joining": "joined still_found split lost_by_split best_split", "misfiling": "possible_orders misplaced",
+    "using": "used used_far first_in_front cost best_order worth_filing",
+    "sharing": "shared_looks shared_fronts best_turns",
+}
+
+
+class InterfaceTest(unittest.TestCase):
+
+    def test_all_is_defined_in_its_own_file(self):
+        for file, names in INTERFACE.items():
+            module = importlib.import_module("seerings." + file)
+            for name in names.split():
+                self.assertEqual(getattr(module, name).__module__, module.__name__, name)
 
 
 def a_drawer():
@@ -85,7 +114,7 @@ def answers(drawer):
             told += [reach(drawer, rule, heading)]
             for way in WAYS:
                 told += [gather(drawer, rule, way, heading, 9), least_patience(drawer, rule, way, heading, 4)]
-    return told + answers_of_losses(drawer)
+    return told + answers_of_losses(drawer) + answers_of_use(drawer)
 
 
 def answers_of_losses(drawer):
@@ -98,6 +127,21 @@ def answers_of_losses(drawer):
         for log in ([], [("a", ()), ("bus", ())]):
             told += [possible_losses(drawer, rule, log, 2), next_heading(drawer, rule, log, 2)]
         told += [judged(drawer, rule, [], 2, place) for place in range(len(drawer))]
+    return told
+
+
+def answers_of_use(drawer):
+    """Return what is told of joining and splitting, of misfiled cards, and of putting in front."""
+    other = Drawer(drawer.cards[:3])
+    requests, rows = ("bus", "a", "x", "rail"), (("bus", "a"), ("rail",), ())
+    told = [joined(drawer, other), *split(drawer, "c"), best_order(drawer, requests)]
+    for rule in RULES:
+        told += [still_found(drawer, other, rule), lost_by_split(drawer, rule, "c"), best_split(drawer, rule)]
+        told += [possible_orders(drawer, rule, [("x", 1)], 2), misplaced(drawer, rule, [], 1)]
+        told += [used(drawer, rule, requests), used_far(drawer, rule, requests, 10 ** 9), cost(drawer, rule, requests)]
+        told += [first_in_front(drawer, rule, requests, place) for place in range(len(drawer))]
+        told += [worth_filing(drawer, rule, requests), shared_looks(drawer, rule, rows)]
+        told += [shared_fronts(drawer, rule, rows), best_turns(drawer, rule, rows)]
     return told
 
 
@@ -143,6 +187,16 @@ class FunctionsTest(unittest.TestCase):
             (possible_losses(drawer, "all", [], 1), list), (possible_losses(drawer, "all", [], 1)[0], tuple),
             (judged(drawer, "all", [], 1, 0), str), (next_heading(drawer, "all", [], 1), str),
             (difference(drawer, "all", "leaf"), str), (possible_rules(drawer, []), list),
+            (joined(drawer, drawer), Drawer), (still_found(drawer, drawer, "all"), list),
+            (split(drawer, "c"), tuple), (split(drawer, "c")[0], Drawer), (lost_by_split(drawer, "all", "c"), list),
+            (best_split(drawer, "all"), str), (possible_orders(drawer, "all", [], 1), list),
+            (possible_orders(drawer, "all", [], 1)[0], tuple), (misplaced(drawer, "all", [], 0), list),
+            (used(drawer, "all", ()), tuple), (used(drawer, "all", ())[0], Drawer),
+            (used_far(drawer, "all", ("bus",), 9), tuple), (used_far(drawer, "all", ("bus",), 9)[1], int),
+            (first_in_front(drawer, "all", ("bus",), 1), tuple), (cost(drawer, "all", ("bus",)), int),
+            (best_order(drawer, ("bus",)), tuple), (best_order(drawer, ("bus",))[1], tuple),
+            (worth_filing(drawer, "all", ()), str), (shared_looks(drawer, "all", ((),)), tuple),
+            (shared_fronts(drawer, "all", ((),)), list), (best_turns(drawer, "all", ((),)), tuple),
         )
         for value, kind in kinds:
             self.assertIs(value.__class__, kind)
@@ -162,6 +216,14 @@ class FunctionsTest(unittest.TestCase):
             lambda: judged(drawer, "all", [], 1, True), lambda: judged(drawer, "all", [("x", (1,))], 1, 0),
             lambda: next_heading(drawer, "all", [("", ())], 1), lambda: difference(drawer, "all", ""),
             lambda: possible_rules(drawer, [("bus", 1), ("", 1)]),
+            lambda: joined(drawer, Drawer(drawer.cards * 4)), lambda: still_found(drawer, drawer, ""),
+            lambda: split(drawer, ""), lambda: lost_by_split(drawer, "all", ""), lambda: best_split(drawer, ""),
+            lambda: possible_orders(drawer, "all", [], True), lambda: misplaced(drawer, "all", [("x", 99)], 2),
+            lambda: used(drawer, "all", ("bus", "")), lambda: used_far(drawer, "all", ("bus",), True),
+            lambda: first_in_front(drawer, "all", ("bus",), True), lambda: cost(drawer, "all", ("bus",) * 13),
+            lambda: best_order(drawer, ("bus", "")), lambda: worth_filing(drawer, "all", ("bus", "")),
+            lambda: shared_looks(drawer, "all", (("bus",),) * 4), lambda: shared_fronts(drawer, "all", (("bus", ""),)),
+            lambda: best_turns(drawer, "all", ()),
         )
         for call in wrong:
             with self.assertRaises(SeeError):
