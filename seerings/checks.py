@@ -6,6 +6,7 @@ from seerings.errors import (
 )
 
 LETTERS = "abcdefghijklmnopqrstuvwxyz"
+DIGITS = "0123456789"
 LONGEST_WORD = 8
 RULES = ("all", "leaf", "half")
 WAYS = ("broad", "deep", "straight")
@@ -26,6 +27,11 @@ def is_number(number, least, greatest):
     if isinstance(number, bool) or not isinstance(number, int):
         return False
     return least <= number <= greatest
+
+
+def is_digits(text, most):
+    """Tell whether a text is at least one and at most so many digits 0 to 9."""
+    return 1 <= len(text) <= most and all([sign in DIGITS for sign in text])
 
 
 def check_rule(rule):

@@ -69,3 +69,9 @@ def is_filed(drawer):
     """Tell whether no heading is less than that of the card ahead."""
     row = headings_along(drawer)
     return all([ahead <= heading for ahead, heading in zip(row, row[1:])])
+
+
+def with_card(drawer, card, place):
+    """Return the drawer into which a card was put, so that it lies at a place."""
+    check_place(len(drawer) + 1, place)
+    return Drawer(drawer.cards[:place] + (card,) + drawer.cards[place:])

@@ -1,6 +1,7 @@
 """The same answers as the program's, found in another way: slowly, by trying all there is."""
 
 import itertools
+import re
 
 from seerings.cards import Card
 from seerings.drawers import Drawer
@@ -344,3 +345,195 @@ def shared(drawer, rule, rows):
         order, looks, _ = used(drawer, rule, [left[index].pop(0) for index in turns])
         told[turns] = (looks, order[0] if order else None)
     return told
+
+
+def worn(drawer, rule, requests, strength, most):
+    """Make at most so many requests; tell of each one whether it found a card, and which cards fell out."""
+    cards = [[place, card.heading, 0] for place, card in enumerate(drawer.cards)]
+    told = []
+    while requests and len(told) < most:
+        found, looks = look_up([heading for _, heading, _ in cards], rule, requests[len(told) % len(requests)])
+        for place in looks:
+            cards[place][2] += 1
+        told.append((found is not None, [place for place, _, seen in cards if seen == strength]))
+        cards = [card for card in cards if card[2] < strength]
+    return told
+
+
+def served(drawer, rule, requests, strength):
+    # Each request that finds a card wears one.
+    told = worn(drawer, rule, requests, strength, len(drawer) * strength + 1)
+    return [found for found, _ in told].index(False) if requests else None
+
+
+def first_fallen(drawer, rule, requests, strength):
+    told = worn(drawer, rule, requests, strength, strength * len(requests))
+    for index, (_, fallen) in enumerate(told):
+        if fallen:
+            return index + 1, fallen
+    return None
+
+
+def desk_after(drawer, rule, operations):
+    """Return the cards, the looks, what is kept, and the results of operations that were made on a drawer."""
+    cards, total, kept, results = list(enumerate(drawer.cards)), 0, {}, []
+    for number, (name, *told) in enumerate(operations):
+        if name == "put":
+            cards.insert(told[1], (-1 - number, told[0]))
+            results.append(len(cards))
+        elif name == "take":
+            results.append(cards.pop(told[0])[1].heading)
+        elif name == "shift":
+            cards.insert(told[1], cards.pop(told[0]))
+            headings = [card.heading for _, card in cards]
+            results.append(headings == sorted(headings))
+        elif name == "use":
+            place, looks = look_up([card.heading for _, card in cards], rule, told[0])
+            total += len(looks)
+            results.append(len(looks))
+            if place is not None:
+                cards.insert(0, cards.pop(place))
+        elif name == "file_all":
+            before = list(cards)
+            cards.sort(key=lambda pair: pair[1].heading)
+            results.append(sum(pair[0] != other[0] for pair, other in zip(before, cards)))
+        elif name == "keep_as":
+            results.append(told[0] in kept)
+            kept[told[0]] = (list(cards), total)
+        elif name == "fetch":
+            cards, total = list(kept[told[0]][0]), kept[told[0]][1]
+            results.append(len(cards))
+    return tuple(card for _, card in cards), total, sorted(kept), results
+
+
+class Watch:
+    """An observer that goes through all pairs each time."""
+
+    def __init__(self, drawer, rules, headings):
+        row = [card.heading for card in drawer.cards]
+        self.all = {(rule, heading): look_up(row, rule, heading) for rule in rules for heading in headings}
+        self.seen = ()
+        self.closed = False
+
+    def left(self, seen, closed):
+        told = {}
+        for pair, (found, looks) in self.all.items():
+            if looks == seen if closed else looks[:len(seen)] == seen:
+                told[pair] = (found, looks)
+        return told
+
+    def told(self):
+        """Return the pairs, the next places, the places that could be found, and the most looks."""
+        left = self.left(self.seen, self.closed)
+        further = sorted({looks[len(self.seen)] for _, looks in left.values() if looks != self.seen})
+        found = sorted({found for found, _ in left.values()} - {None})
+        return tuple(left), further, found, max(len(looks) for _, looks in left.values()) - len(self.seen)
+
+
+def table(drawer, rule):
+    rows = []
+    for heading in known(drawer):
+        word, places, _, _ = walk(drawer, rule, heading)
+        rows.append(heading + ": " + (">".join(map(str, places)) or "-") + " " + word)
+    return "\n".join(rows)
+
+
+WORD = "[a-z]{1,8}"
+BOOK = "[1-9][0-9]{0,2}"
+# A row of words that can be gone on with, and one that is complete.
+BEGUN = re.compile(f"see( {WORD}){{0,2}}|card( {WORD}(?P<books>( {BOOK})*)( also( {WORD})*)?)?", re.ASCII)
+COMPLETE = re.compile(f"see {WORD} {WORD}|card {WORD}( {BOOK})*( also( {WORD})+)?", re.ASCII)
+
+
+def wrong_word(text):
+    """Return the row and word that are wrong in a text of cards, or None."""
+    for row, line in enumerate(text.split("\n") if text else []):
+        words = line.split(" ")
+        for many in range(1, len(words) + 1):
+            begun = BEGUN.fullmatch(" ".join(words[:many]))
+            books = [int(book) for book in begun["books"].split()] if begun and begun["books"] else []
+            if not begun or books != sorted(set(books)):
+                return row, many - 1
+        if not COMPLETE.fullmatch(line):
+            return row, len(words)
+    return None
+
+
+class Stopped(Exception):
+    """A script that is executed comes to its end by an error."""
+
+
+class Script:
+    """A script of rows that are right, executed step by step; the drawer is a list of cards."""
+
+    def __init__(self, drawer, text):
+        self.cards = list(drawer.cards)
+        self.rows = [row.split(" ") for row in text.split("\n")] if text else []
+        self.output = []
+        self.steps = 0
+
+    def step(self):
+        self.steps += 1
+        if self.steps > 300:
+            raise Stopped("long")
+
+    def end_of(self, at):
+        depth = 0
+        while True:
+            depth += {"repeat": 1, "when": 1, "end": -1}.get(self.rows[at][0], 0)
+            if depth == 0:
+                return at
+            at += 1
+
+    def run(self, at, end):
+        while at < end:
+            self.step()
+            word, *told = self.rows[at]
+            if word in ("repeat", "when"):
+                behind = self.end_of(at)
+                times = int(told[0]) if word == "repeat" else self.ending(*told[:2]) == told[2]
+                for _ in range(times):
+                    if word == "repeat":
+                        self.step()
+                    self.run(at + 1, behind)
+                at = behind + 1
+            else:
+                if not self.made(word, told):
+                    raise Stopped(at)
+                at += 1
+
+    def ending(self, rule, heading):
+        return walk(Drawer(tuple(self.cards)), rule, heading)[0]
+
+    def made(self, word, told):
+        """Execute a row that is no block; return whether this is possible."""
+        many = len(self.cards)
+        if word in ("put", "take", "shift"):
+            place = int(told[0])
+            if word == "put":
+                return place <= many < 16 and self.put(place, told[1:])
+            if place >= many or (word == "shift" and int(told[1]) >= many):
+                return False
+            card = self.cards.pop(place)
+            if word == "shift":
+                self.cards.insert(int(told[1]), card)
+        elif word == "file":
+            self.cards.sort(key=lambda card: card.heading)
+        elif word == "use":
+            place, looks = look_up([card.heading for card in self.cards], *told)
+            self.output.append(str(len(looks)))
+            if place is not None:
+                self.cards.insert(0, self.cards.pop(place))
+        else:
+            self.output.append(self.ending(*told))
+        return True
+
+    def put(self, place, words):
+        numbers = tuple(int(word) for word in words if word.isdigit())
+        also = tuple(words[words.index("also", 2) + 1:]) if "also" in words[2:] else ()
+        try:
+            card = Card(words[1], see=words[2]) if words[0] == "see" else Card(words[1], numbers, "", also)
+        except InvalidCard:
+            return False
+        self.cards.insert(place, card)
+        return True

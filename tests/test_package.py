@@ -1,9 +1,12 @@
 """What holds for the whole package: point 1."""
 
 import importlib
+import inspect
 import unittest
 
 from seerings.cards import Card
+from seerings.codec import decode_drawer, encode_drawer
+from seerings.desks import Desk, Trial
 from seerings.drawers import Drawer, filed, is_filed
 from seerings.errors import InvalidDrawer, SeeError, UnknownPlace
 from seerings.gathering import (
@@ -14,37 +17,118 @@ from seerings.lookups import look_up, never_found, why_not
 from seerings.losing import cuts, least_loss, safe_books
 from seerings.mending import mend
 from seerings.misfiling import misplaced, possible_orders
+from seerings.notation import format_drawer, parse_drawer
+from seerings.observers import Observer
 from seerings.ordering import fewest_moves, out_of_order
+from seerings.scripts import run_script
 from seerings.sharing import best_turns, shared_fronts, shared_looks
+from seerings.tables import strip, table
 from seerings.traces import difference, judged, next_heading, possible_losses, possible_rules
 from seerings.using import best_order, cost, first_in_front, used, used_far, worth_filing
 from seerings.walks import dearest, landings, looks, see_rings, walk
+from seerings.wearing import first_fallen, served
 
 from tests.made import RULES, WAYS, some_drawers
 
-# What the interface lists under each file, as far as it has landed.
+ERRORS = (
+    "SeeError", "InvalidCard", "InvalidDrawer", "UnknownPlace", "InvalidRule", "InvalidHeading", "InvalidWay",
+    "InvalidNumber", "InvalidLog", "NoLoss", "InvalidTally", "NoOrder", "InvalidRequests", "InvalidRows", "InvalidName",
+    "UnknownName", "InvalidOperation", "NoPair", "Ended", "InvalidText", "DecodeError", "ScriptError",
+    "ExecutionFailed", "TooLong",
+)
+# What the interface lists under each file.
 INTERFACE = {
-    "errors": "SeeError InvalidCard InvalidDrawer UnknownPlace InvalidRule InvalidHeading InvalidWay InvalidNumber "
-              "InvalidLog NoLoss InvalidTally NoOrder InvalidRequests InvalidRows InvalidName UnknownName "
-              "InvalidOperation NoPair Ended InvalidText DecodeError ScriptError ExecutionFailed TooLong",
-    "cards": "Card", "drawers": "Drawer filed is_filed", "lookups": "look_up never_found why_not",
-    "ordering": "out_of_order fewest_moves", "walks": "walk looks landings see_rings dearest",
-    "gathering": "gather reach hidden least_patience fewest_headings leads_to also_rings", "mending": "mend",
-    "losing": "cuts least_loss safe_books",
-    "traces": "possible_losses judged next_heading difference possible_rules",
-    "joining": "joined still_found split lost_by_split best_split", "misfiling": "possible_orders misplaced",
-    "using": "used used_far first_in_front cost best_order worth_filing",
-    "sharing": "shared_looks shared_fronts best_turns",
+    "cards": ("Card(heading, books=(), see='', also=())",),
+    "drawers": ("Drawer(cards)", "filed(drawer)", "is_filed(drawer)"),
+    "lookups": ("look_up(drawer, rule, heading)", "never_found(drawer, rule)", "why_not(drawer, rule, place)"),
+    "ordering": ("out_of_order(drawer)", "fewest_moves(drawer, rule, most)"),
+    "walks": (
+        "walk(drawer, rule, heading)", "looks(drawer, rule, heading)", "landings(drawer, rule)",
+        "see_rings(drawer, rule)", "dearest(drawer, rule)",
+    ),
+    "gathering": (
+        "gather(drawer, rule, way, heading, patience)", "reach(drawer, rule, heading)",
+        "hidden(drawer, rule, headings)", "least_patience(drawer, rule, way, heading, book)",
+        "fewest_headings(drawer, rule)", "leads_to(drawer, rule, place)", "also_rings(drawer, rule)",
+    ),
+    "mending": ("mend(drawer, rule, headings, most)",),
+    "losing": (
+        "cuts(drawer, rule, heading, book)", "least_loss(drawer, rule, heading, book)",
+        "safe_books(drawer, rule, heading, count)",
+    ),
+    "traces": (
+        "possible_losses(drawer, rule, log, most)", "judged(drawer, rule, log, most, place)",
+        "next_heading(drawer, rule, log, most)", "difference(drawer, one, other)", "possible_rules(drawer, counts)",
+    ),
+    "joining": (
+        "joined(one, other)", "still_found(one, other, rule)", "split(drawer, heading)",
+        "lost_by_split(drawer, rule, heading)", "best_split(drawer, rule)",
+    ),
+    "misfiling": ("possible_orders(drawer, rule, tally, most)", "misplaced(drawer, rule, tally, most)"),
+    "using": (
+        "used(drawer, rule, requests)", "used_far(drawer, rule, requests, count)",
+        "first_in_front(drawer, rule, requests, place)", "cost(drawer, rule, requests)",
+        "best_order(drawer, requests)", "worth_filing(drawer, rule, requests)",
+    ),
+    "sharing": (
+        "shared_looks(drawer, rule, rows)", "shared_fronts(drawer, rule, rows)", "best_turns(drawer, rule, rows)",
+    ),
+    "wearing": ("served(drawer, rule, requests, strength)", "first_fallen(drawer, rule, requests, strength)"),
+    "desks": ("Desk(drawer, rule)", "Trial(desk)"),
+    "observers": ("Observer(drawer, rules, headings)",),
+    "tables": ("table(drawer, rule)", "strip(drawer)"),
+    "notation": ("format_drawer(drawer)", "parse_drawer(text)"),
+    "codec": ("encode_drawer(drawer)", "decode_drawer(values)"),
+    "scripts": ("run_script(drawer, text)",),
+}
+# What the interface lists for each class: properties by their names alone, methods by what is passed to them.
+CLASSES = {
+    Card: ("heading", "books", "see", "also", "leads", "__eq__(other)"),
+    Drawer: (
+        "cards", "headings", "without(places)", "moved(place, other)", "__getitem__(place)", "__len__()",
+        "__eq__(other)",
+    ),
+    Desk: (
+        "contents", "look_count", "kept", "history", "put(card, place)", "use(heading)", "file_all()", "fetch(name)",
+        "take(place)", "shift(place, other)", "keep_as(name)", "undo()", "redo()", "apply_all(operations)",
+        "tried(operations, keep)", "replay(drawer, rule, operations)",
+    ),
+    Trial: ("hold()", "__enter__()", "__exit__(kind, value, trace)"),
+    Observer: (
+        "pairs", "places", "is_closed", "saw(place)", "ended()", "next_places()", "could_find()", "most_looks()",
+    ),
 }
 
 
 class InterfaceTest(unittest.TestCase):
 
+    def test_all_errors_are_defined_in_their_file(self):
+        module = importlib.import_module("seerings.errors")
+        for name in ERRORS:
+            self.assertEqual(getattr(module, name).__module__, module.__name__, name)
+            self.assertTrue(issubclass(getattr(module, name), SeeError), name)
+
     def test_all_is_defined_in_its_own_file(self):
-        for file, names in INTERFACE.items():
+        for file, rows in INTERFACE.items():
             module = importlib.import_module("seerings." + file)
-            for name in names.split():
-                self.assertEqual(getattr(module, name).__module__, module.__name__, name)
+            for row in rows:
+                name = row.split("(")[0]
+                value = getattr(module, name)
+                self.assertEqual(value.__module__, module.__name__, name)
+                self.assertEqual(name + str(inspect.signature(value)), row)
+
+    def test_all_of_a_class_is_defined_in_itself(self):
+        for kind, rows in CLASSES.items():
+            thing = {Card: lambda: Card("a"), Trial: lambda: Trial(Desk(a_drawer(), "all")),
+                     Drawer: a_drawer, Desk: lambda: Desk(a_drawer(), "all"),
+                     Observer: lambda: Observer(a_drawer(), ("all",), ("a",))}[kind]()
+            for row in rows:
+                name = row.split("(")[0]
+                self.assertIn(name, vars(kind))
+                if "(" in row:
+                    self.assertEqual(name + str(inspect.signature(getattr(thing, name))), row)
+                else:
+                    self.assertIsInstance(vars(kind)[name], property)
 
 
 def a_drawer():
@@ -114,7 +198,7 @@ def answers(drawer):
             told += [reach(drawer, rule, heading)]
             for way in WAYS:
                 told += [gather(drawer, rule, way, heading, 9), least_patience(drawer, rule, way, heading, 4)]
-    return told + answers_of_losses(drawer) + answers_of_use(drawer)
+    return told + answers_of_losses(drawer) + answers_of_use(drawer) + answers_of_texts(drawer)
 
 
 def answers_of_losses(drawer):
@@ -145,6 +229,21 @@ def answers_of_use(drawer):
     return told
 
 
+def answers_of_texts(drawer):
+    """Return what is told of wear, of a live drawer and who is watched, and in tables, texts, codes and scripts."""
+    told = [strip(drawer), format_drawer(drawer), parse_drawer(format_drawer(drawer))]
+    told += [encode_drawer(drawer), decode_drawer(encode_drawer(drawer))]
+    for rule in RULES:
+        desk = Desk.replay(drawer, rule, [("keep_as", "x"), ("use", "bus"), ("put", Card("a"), 0), ("undo",)])
+        watch = Observer(drawer, (rule,), ("a", "bus", "x"))
+        told += [served(drawer, rule, ("bus", "a"), 10 ** 9), first_fallen(drawer, rule, ("bus", "a"), 7)]
+        told += [desk.contents, desk.look_count, desk.kept, desk.history, desk.apply_all([("redo",), ("file_all",)])]
+        told += [desk.tried([("use", "a"), ("fetch", "x")], False), desk.history, desk.kept, desk.contents]
+        told += [watch.pairs, watch.places, watch.next_places(), watch.could_find(), watch.most_looks()]
+        told += [table(drawer, rule), *run_script(drawer, f"use {rule} bus\nfind {rule} a\nrepeat 2\nfile\nend")]
+    return told
+
+
 def spoil(value):
     """Empty a list or a dict that was returned."""
     if isinstance(value, (list, dict)):
@@ -169,6 +268,24 @@ class FunctionsTest(unittest.TestCase):
                 spoil(value)
             self.assertEqual(answers(drawer), second)
             self.assertEqual(answers(Drawer(drawer.cards)), second)
+
+    def test_lists_that_are_handed_in_are_not_modified_or_kept(self):
+        drawer = a_drawer()
+        log, tally, counts = [("bus", (7,))], [("bus", 2)], [("rail", 4)]
+        values, operations = encode_drawer(drawer), [("take", 0), ("undo",), ("use", "bus")]
+        rows = [list(row) for row in (log, tally, counts, values, operations)]
+        possible_losses(drawer, "all", log, 2)
+        next_heading(drawer, "all", log, 2)
+        possible_orders(drawer, "all", tally, 2)
+        possible_rules(drawer, counts)
+        decode_drawer(values)
+        desk = Desk.replay(drawer, "all", operations)
+        desk.apply_all(operations)
+        desk.tried(operations, True)
+        self.assertEqual([log, tally, counts, values, operations], rows)
+        before = (desk.contents, desk.look_count, desk.history)
+        operations.append(("take", 0))
+        self.assertEqual((desk.contents, desk.look_count, desk.history), before)
 
     def test_kinds_of_values(self):
         drawer = a_drawer()
@@ -197,6 +314,14 @@ class FunctionsTest(unittest.TestCase):
             (best_order(drawer, ("bus",)), tuple), (best_order(drawer, ("bus",))[1], tuple),
             (worth_filing(drawer, "all", ()), str), (shared_looks(drawer, "all", ((),)), tuple),
             (shared_fronts(drawer, "all", ((),)), list), (best_turns(drawer, "all", ((),)), tuple),
+            (served(drawer, "all", ("bus",), 9), int), (first_fallen(drawer, "all", ("bus",), 9), tuple),
+            (first_fallen(drawer, "all", ("bus",), 9)[1], list), (Desk(drawer, "all").contents, Drawer),
+            (Desk(drawer, "all").look_count, int), (Desk(drawer, "all").kept, list),
+            (Desk(drawer, "all").history, list), (Desk(drawer, "all").apply_all([]), list),
+            (Desk(drawer, "all").tried([], True), list), (Desk.replay(drawer, "all", []), Desk),
+            (table(drawer, "all"), str), (strip(drawer), str), (format_drawer(drawer), str), (parse_drawer(""), Drawer),
+            (encode_drawer(drawer), list), (decode_drawer(encode_drawer(drawer)), Drawer),
+            (run_script(drawer, ""), tuple), (run_script(drawer, "")[0], Drawer), (run_script(drawer, "")[1], list),
         )
         for value, kind in kinds:
             self.assertIs(value.__class__, kind)
@@ -223,7 +348,14 @@ class FunctionsTest(unittest.TestCase):
             lambda: first_in_front(drawer, "all", ("bus",), True), lambda: cost(drawer, "all", ("bus",) * 13),
             lambda: best_order(drawer, ("bus", "")), lambda: worth_filing(drawer, "all", ("bus", "")),
             lambda: shared_looks(drawer, "all", (("bus",),) * 4), lambda: shared_fronts(drawer, "all", (("bus", ""),)),
-            lambda: best_turns(drawer, "all", ()),
+            lambda: best_turns(drawer, "all", ()), lambda: served(drawer, "all", ("bus",), True),
+            lambda: first_fallen(drawer, "all", ("bus", ""), 1), lambda: Desk(drawer, ""),
+            lambda: Desk(drawer, "all").put(Card("a"), True), lambda: Desk.replay(drawer, "all", [("take",)]),
+            lambda: Desk(drawer, "all").tried([("take", 0), ("take", 9)], True),
+            lambda: Observer(drawer, ("all", ""), ("bus",)), lambda: Observer(drawer, ("all",), ("bus",)).saw(True),
+            lambda: table(drawer, ""), lambda: parse_drawer("card"), lambda: parse_drawer("see bus bus"),
+            lambda: decode_drawer([97, True]), lambda: run_script(drawer, "take"), lambda: run_script(drawer, "take 9"),
+            lambda: run_script(drawer, "file\n" + "repeat 99\nend\n" * 3 + "file"),
         )
         for call in wrong:
             with self.assertRaises(SeeError):
